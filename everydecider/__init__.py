@@ -1,0 +1,1 @@
+"""Everydecider: how many acts a decider needs to notice the better experiment."""

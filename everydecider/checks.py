@@ -1,0 +1,39 @@
+"""Checks of arguments that several files have in common."""
+
+from everydecider.errors import BadPrior, BadSize
+
+_MOST_STATES = 4
+
+
+def is_integer(value):
+    """Tell whether a value is an integer: True and False are none."""
+    return isinstance(value, int) and not isinstance(value, bool)
+
+
+def is_number_below(value, count):
+    """Tell whether a value is one of the numbers 0, 1, .. below a count."""
+    return is_integer(value) and 0 <= value < count
+
+
+def are_amounts(values):
+    """Tell whether a value is a list of integers of at least 0."""
+    if not isinstance(values, (list, tuple)):
+        return False
+    return all([is_integer(value) and value >= 0 for value in values])
+
+
+def are_weights(values):
+    """Tell whether a value is a list of integers of at least 0, not all 0."""
+    return are_amounts(values) and sum(values) > 0
+
+
+def check_prior(prior):
+    """Refuse what is no prior, whatever the number of the states is."""
+    if not are_weights(prior):
+        raise BadPrior()
+
+
+def check_states(states):
+    """Refuse what is no number of states."""
+    if not is_integer(states) or not 1 <= states <= _MOST_STATES:
+        raise BadSize(states)
