@@ -1,6 +1,6 @@
 """Checks of arguments that several files have in common."""
 
-from everydecider.errors import BadPrior, BadSize
+from everydecider.errors import BadPayoffs, BadPrior, BadSize, Mismatch
 
 _MOST_STATES = 4
 
@@ -15,11 +15,14 @@ def is_number_below(value, count):
     return is_integer(value) and 0 <= value < count
 
 
+def are_integers(values):
+    """Tell whether a value is a list of integers."""
+    return isinstance(values, (list, tuple)) and all([is_integer(value) for value in values])
+
+
 def are_amounts(values):
     """Tell whether a value is a list of integers of at least 0."""
-    if not isinstance(values, (list, tuple)):
-        return False
-    return all([is_integer(value) and value >= 0 for value in values])
+    return are_integers(values) and all([value >= 0 for value in values])
 
 
 def are_weights(values):
@@ -31,6 +34,21 @@ def check_prior(prior):
     """Refuse what is no prior, whatever the number of the states is."""
     if not are_weights(prior):
         raise BadPrior()
+
+
+def check_payoffs(payoffs):
+    """Refuse what are no payoffs: a row for each act, with an integer for each state."""
+    if len(payoffs) == 0:
+        raise BadSize(0)
+    for index, row in enumerate(payoffs):
+        if not are_integers(row) or len(row) != len(payoffs[0]) or not 1 <= len(row) <= _MOST_STATES:
+            raise BadPayoffs(index)
+
+
+def check_same_states(one, other):
+    """Refuse two experiments, or an experiment and a decision, of unlike numbers of states."""
+    if one.states != other.states:
+        raise Mismatch()
 
 
 def check_states(states):

@@ -3,7 +3,7 @@
 from everydecider.checks import check_prior, check_states, is_number_below
 from everydecider.errors import BadRow, Mismatch, NoSignal, NoState
 from everydecider.ratios import ratio
-from everydecider.rows import check_rows, check_unit, lowest_rows
+from everydecider.rows import check_rows, check_unit, lowest_rows, unit_rows
 
 
 class Experiment:
@@ -74,7 +74,7 @@ def uninformative(states):
 def revealing(states):
     """The experiment with a signal for each state."""
     check_states(states)
-    return Experiment(1, [[int(signal == state) for signal in range(states)] for state in range(states)])
+    return Experiment(1, unit_rows(states))
 
 
 def two_signals(unit, hits):

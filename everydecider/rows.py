@@ -1,4 +1,4 @@
-"""Rows of integers whose sums are one unit, as experiments have them."""
+"""Rows of integers whose sums are one unit, as experiments and garblings have them."""
 
 from math import gcd
 
@@ -28,3 +28,14 @@ def lowest_rows(unit, rows):
             divisor = gcd(divisor, number)
     kept = [tuple([number // divisor for number in row]) for row in rows]
     return (unit // divisor, tuple(kept))
+
+
+def multiplied(one, other):
+    """The rows of one garbling, or of an experiment, followed by another garbling."""
+    return [[sum([number * row[at] for number, row in zip(line, other)]) for at in range(len(other[0]))]
+            for line in one]
+
+
+def unit_rows(size):
+    """Rows with a 1 at the place of the row and 0 at the others."""
+    return [[int(place == at) for place in range(size)] for at in range(size)]

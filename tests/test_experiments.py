@@ -8,6 +8,7 @@ from everydecider import experiments
 from everydecider.errors import BadPrior, BadRow, BadSize, BadUnit, Mismatch, NoSignal, NoState
 from everydecider.experiments import Experiment, posterior, probability, revealing, two_signals, uninformative
 from tests.examples import expect_error, run_examples
+from tests.values import BAD_ROWS, BIG, NO_INTEGERS, as_ratio
 
 EXAMPLES = """
     >>> e = Experiment(8, [[6, 2], [2, 6]])
@@ -20,12 +21,6 @@ EXAMPLES = """
     >>> Experiment(4, [[3, 1], [1, 4]])
     raises BadRow(1)
 """
-NO_INTEGERS = [True, False, None, "1", "", b"1", [1], (1,), {}]
-BIG = 123456789012345678901234567890
-
-
-def as_ratio(fraction):
-    return (fraction.numerator, fraction.denominator)
 
 
 def three_signals():
@@ -67,24 +62,7 @@ class Construction(unittest.TestCase):
         expect_error(self, BadSize(9), lambda: Experiment(1, [[1]] * 9))
 
     def test_bad_row(self):
-        cases = [
-            (0, [[]]),
-            (0, [[], []]),
-            (0, [[], [4]]),
-            (1, [[4], []]),
-            (1, [[3, 1], [4]]),
-            (1, [[4], [3, 1]]),
-            (2, [[3, 1], [1, 3], [2, 1, 1]]),
-            (0, [[5, -1]]),
-            (1, [[3, 1], [-1, 5]]),
-            (0, [[3, 2], [3, 1]]),
-            (0, [[3, 0], [3, 1]]),
-            (1, [[3, 1], [3, 0]]),
-            (3, [[4], [4], [4], [5]]),
-            (1, [[3, 1], [1, 4], [1, 5]]),
-            (0, [[0, 0], [3, 1]]),
-        ]
-        for index, rows in cases:
+        for index, rows in BAD_ROWS:
             with self.subTest(rows=rows):
                 expect_error(self, BadRow(index), lambda: Experiment(4, rows))
                 expect_error(self, BadRow(index), lambda: Experiment(4, tuple([tuple(row) for row in rows])))

@@ -16,8 +16,17 @@ INTERFACE = {
                  "BadName NameTaken UnknownName NothingToUndo NothingToRedo BadLine",
     "ratios.py": "ratio plus minus times over compare total common lowest ratio_text read_ratio",
     "experiments.py": "Experiment probability posterior uninformative revealing two_signals",
+    "garblings.py": "Garbling garbled unchanged merging renaming is_sharp",
+    "decisions.py": "Decision value gain best_acts best_rule price shifted scaled with_prior without_act regrets",
+    "linear.py": "solve is_solved least is_least",
+    "comparing.py": "garbling_from decision_against never_worse order shows_never_worse shows_worse best_of "
+                    "groups_alike",
 }
-METHODS = {("experiments.py", "Experiment"): "__init__ rows __getitem__ __len__ __eq__"}
+METHODS = {
+    ("experiments.py", "Experiment"): "__init__ rows __getitem__ __len__ __eq__",
+    ("garblings.py", "Garbling"): "__init__ rows __getitem__ __eq__ __mul__",
+    ("decisions.py", "Decision"): "__init__ acts payoffs prior __getitem__ __eq__",
+}
 
 
 def files():
