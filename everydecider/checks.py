@@ -1,6 +1,8 @@
 """Checks of arguments that several files have in common."""
 
-from everydecider.errors import BadPayoffs, BadPrior, BadSize, Mismatch
+from math import gcd
+
+from everydecider.errors import BadPayoffs, BadPrior, BadSize, Mismatch, NotTwoStates
 
 _MOST_STATES = 4
 
@@ -30,18 +32,26 @@ def are_weights(values):
     return are_amounts(values) and sum(values) > 0
 
 
+def is_ratio(value):
+    """Tell whether a value is a ratio: a tuple of two integers in lowest terms."""
+    if not isinstance(value, tuple) or not are_integers(value) or len(value) != 2:
+        return False
+    top, bottom = value
+    return bottom >= 1 and gcd(top, bottom) == 1
+
+
 def check_prior(prior):
     """Refuse what is no prior, whatever the number of the states is."""
     if not are_weights(prior):
         raise BadPrior()
 
 
-def check_payoffs(payoffs):
-    """Refuse what are no payoffs: a row for each act, with an integer for each state."""
+def check_payoffs(payoffs, fewest=1, most=_MOST_STATES):
+    """Refuse what are no payoffs: a row for each act, with an integer for each of so many states."""
     if len(payoffs) == 0:
         raise BadSize(0)
     for index, row in enumerate(payoffs):
-        if not are_integers(row) or len(row) != len(payoffs[0]) or not 1 <= len(row) <= _MOST_STATES:
+        if not are_integers(row) or len(row) != len(payoffs[0]) or not fewest <= len(row) <= most:
             raise BadPayoffs(index)
 
 
@@ -49,6 +59,25 @@ def check_same_states(one, other):
     """Refuse two experiments, or an experiment and a decision, of unlike numbers of states."""
     if one.states != other.states:
         raise Mismatch()
+
+
+def check_all_same_states(experiments):
+    """Refuse a list of experiments of unlike numbers of states."""
+    for e in experiments:
+        check_same_states(experiments[0], e)
+
+
+def check_two_states(experiments):
+    """Refuse experiments of another number of states than two."""
+    for e in experiments:
+        if e.states != 2:
+            raise NotTwoStates(e.states)
+
+
+def check_count(count):
+    """Refuse what is no number of signals or acts: an integer of at least 1."""
+    if not is_integer(count) or count < 1:
+        raise BadSize(count)
 
 
 def check_states(states):

@@ -76,10 +76,7 @@ def shows_worse(one, other, decision):
 
 def best_of(experiments):
     """The indices of the experiments of a list than which no other one is better."""
-    table = _table(experiments)
-    indices = list(range(len(experiments)))
-    return [index for index in indices
-            if all([table[index][other] or not table[other][index] for other in indices])]
+    return best_in(_table(experiments))
 
 
 def groups_alike(experiments):
@@ -90,6 +87,13 @@ def groups_alike(experiments):
         same = [other for other in range(index + 1) if table[index][other] and table[other][index]]
         firsts.setdefault(same[0], []).append(index)
     return list(firsts.values())
+
+
+def best_in(table):
+    """The indices than which no other one is better, from a table that tells which one is never worse than which."""
+    indices = list(range(len(table)))
+    return [index for index in indices
+            if all([table[index][other] or not table[other][index] for other in indices])]
 
 
 def _table(experiments):

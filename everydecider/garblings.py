@@ -1,6 +1,6 @@
 """Garblings: for each old signal the probabilities of the new ones."""
 
-from everydecider.checks import is_integer, is_number_below
+from everydecider.checks import check_count, is_number_below
 from everydecider.errors import BadGroups, BadSize, Mismatch, NoSignal
 from everydecider.experiments import Experiment
 from everydecider.ratios import ratio
@@ -53,13 +53,13 @@ def garbled(e, g):
 
 def unchanged(signals):
     """The garbling that replaces each signal by itself."""
-    _check_signals(signals)
+    check_count(signals)
     return Garbling(1, unit_rows(signals))
 
 
 def merging(groups, signals):
     """The garbling that replaces each signal by the number of its group."""
-    _check_signals(signals)
+    check_count(signals)
     if not _are_groups(groups) or not _is_order([signal for group in groups for signal in group], signals):
         raise BadGroups()
     return Garbling(1, [[int(signal in group) for group in groups] for signal in range(signals)])
@@ -76,12 +76,6 @@ def is_sharp(g):
     """Tell whether each probability of a garbling is 0 or 1."""
     # In lowest terms, because then all integers have the unit as a divisor.
     return g.unit == 1
-
-
-def _check_signals(signals):
-    """Refuse what is no number of signals."""
-    if not is_integer(signals) or signals < 1:
-        raise BadSize(signals)
 
 
 def _are_groups(groups):

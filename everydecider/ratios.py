@@ -73,6 +73,12 @@ def common(ratios):
     return (unit, [top * (unit // bottom) for top, bottom in ratios])
 
 
+def ascending(ratios):
+    """The different ratios of a list, the least one first."""
+    unit, tops = common(ratios)
+    return [ratio(top, unit) for top in sorted(set(tops))]
+
+
 def lowest(numbers):
     """The integers of a list divided by their greatest common divisor."""
     divisor = 0

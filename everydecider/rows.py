@@ -36,6 +36,11 @@ def multiplied(one, other):
             for line in one]
 
 
+def turned(rows):
+    """The columns of rows, or the rows of columns."""
+    return [list(column) for column in zip(*rows)]
+
+
 def unit_rows(size):
     """Rows with a 1 at the place of the row and 0 at the others."""
     return [[int(place == at) for place in range(size)] for at in range(size)]

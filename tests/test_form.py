@@ -21,6 +21,10 @@ INTERFACE = {
     "linear.py": "solve is_solved least is_least",
     "comparing.py": "garbling_from decision_against never_worse order shows_never_worse shows_worse best_of "
                     "groups_alike",
+    "standard.py": "standard alike fewest_signals to_standard split without_empty",
+    "fewacts.py": "partings never_worse_for act_against merging_paper shows_for acts_needed order_for best_for",
+    "polygons.py": "corners from_corners height_at covers meet join",
+    "together.py": "both again one_of blended at_states both_garblings side_by_side",
 }
 METHODS = {
     ("experiments.py", "Experiment"): "__init__ rows __getitem__ __len__ __eq__",

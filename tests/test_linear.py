@@ -1,15 +1,14 @@
 """Points [7], [8] and [51] to [54]: linear programs."""
 
 import random
-import signal
 import time
 import unittest
-from contextlib import contextmanager
 
 from everydecider import linear
 from everydecider.errors import BadProgram
 from everydecider.linear import is_least, is_solved, least, solve
 from tests.examples import expect_error, run_examples
+from tests.limits import in_time
 from tests.values import BIG, NO_INTEGERS, all_lists, in_tuples
 
 EXAMPLES = """
@@ -108,21 +107,6 @@ def some_program(rng, most_rows, most_columns, numbers):
     if rng.random() < 0.4:
         costs = [abs(cost) for cost in costs]
     return rows, totals, costs
-
-
-@contextmanager
-def in_time(case, seconds):
-    """Fail, rather than go on for ever, where a search goes round in a circle."""
-    def stop(number, frame):
-        case.fail(f"no answer within {seconds} seconds")
-
-    before = signal.signal(signal.SIGALRM, stop)
-    signal.alarm(seconds)
-    try:
-        yield
-    finally:
-        signal.alarm(0)
-        signal.signal(signal.SIGALRM, before)
 
 
 # Rows and costs, for totals of 0, on which the simplex method goes round in a circle if it takes ..

@@ -1,5 +1,8 @@
 """Values that the tests of several files have in common."""
 
+from fractions import Fraction
+from math import lcm
+
 from everydecider.experiments import Experiment
 from everydecider.garblings import Garbling
 
@@ -31,7 +34,7 @@ def as_ratio(fraction):
 
 def parts(rng, unit, count, zeros=0.3):
     """So many integers of at least 0 whose sum is a unit, some of them 0."""
-    weights = [0 if rng.random() < zeros else rng.random() for _ in range(count)]
+    weights = [Fraction(0 if rng.random() < zeros else rng.random()) for _ in range(count)]
     whole = sum(weights)
     numbers = [int(weight / whole * unit) if whole else 0 for weight in weights]
     numbers[rng.randrange(count)] += unit - sum(numbers)
@@ -56,3 +59,21 @@ def in_tuples(value):
 def all_lists(value):
     """The kinds of a nested list: list, list of lists and so on, all the way down."""
     return [all_lists(item) for item in value] if type(value) is list else type(value)
+
+
+def shares(thing):
+    """The probabilities of an experiment or a garbling, a list for each row."""
+    return [[Fraction(number, thing.unit) for number in row] for row in thing.rows()]
+
+
+def turned(rows):
+    return [list(row) for row in zip(*rows)]
+
+
+def expect_shares(case, thing, rows):
+    """Check an experiment or a garbling in every respect against one that is made anew of its probabilities."""
+    unit = lcm(*[number.denominator for row in rows for number in row])
+    made = thing.__class__(unit, [[int(number * unit) for number in row] for row in rows])
+    case.assertEqual(vars(thing), vars(made))
+    case.assertEqual([thing.unit, shares(thing), thing == made], [unit, rows, True])
+    case.assertEqual(all_lists(thing.rows()), [[int] * len(rows[0])] * len(rows))
