@@ -25,11 +25,17 @@ INTERFACE = {
     "fewacts.py": "partings never_worse_for act_against merging_paper shows_for acts_needed order_for best_for",
     "polygons.py": "corners from_corners height_at covers meet join",
     "together.py": "both again one_of blended at_states both_garblings side_by_side",
+    "bends.py": "value_at bends act_stretch worse_chance groups_for groups_for_all prior_for mixture_above",
+    "twoacts.py": "never_worse_for_two two_act_against share_paper shows_shares",
+    "bench.py": "Bench",
+    "notation.py": "text_of read_experiment read_garbling read_decision read_bench report",
 }
 METHODS = {
     ("experiments.py", "Experiment"): "__init__ rows __getitem__ __len__ __eq__",
     ("garblings.py", "Garbling"): "__init__ rows __getitem__ __eq__ __mul__",
     ("decisions.py", "Decision"): "__init__ acts payoffs prior __getitem__ __eq__",
+    ("bench.py", "Bench"): "__init__ undos redos names __len__ __contains__ __getitem__ put replace garble combine rename "
+                           "drop undo redo order paper leaders table trial tried",
 }
 
 
