@@ -1,6 +1,6 @@
 """Values for all priors of two states, groups of signals, priors and mixtures for acts."""
 
-from everydecider.checks import check_payoffs, check_same_states, check_two_states, is_number_below, is_ratio
+from everydecider.checks import check_payoffs, check_two_states, is_number_below, is_ratio
 from everydecider.decisions import Decision, best_acts, value
 from everydecider.errors import BadPrior, NoAct, NoSignal
 from everydecider.fewacts import partings
@@ -62,8 +62,6 @@ def groups_for(d, e):
 
 def groups_for_all(decisions, e):
     """The fewest groups of signals that keep the value in each of several decisions."""
-    for d in decisions:
-        check_same_states(d, e)
     best = [best_acts(d, e) for d in decisions]
     count = 1
     while True:

@@ -51,7 +51,7 @@ def read_bench(text):
     at = 1
     while at < len(lines):
         name, unit = _put_words(lines[at], at + 1)
-        rows = _rows(lines, at + 1, at + 1 + max(0, states))
+        rows = _rows(lines, at + 1, at + 1 + states)
         parts.append((name, unit, rows))
         at += 1 + len(rows)
     bench = Bench(states)
